@@ -3,6 +3,7 @@ package ticket
 
 import (
 	"leeboard/api"
+	"leeboard/limit"
 	"leeboard/octet"
 )
 
@@ -14,7 +15,7 @@ func Check(t api.Ticket) api.Errno {
 	switch {
 	case !inRange(t):
 		return api.ErrRange
-	case !within(t.Kind, api.Single, api.Carnet):
+	case !limit.Within(t.Kind, api.Single, api.Carnet):
 		return api.ErrKind
 	case t.To < t.From:
 		return api.ErrState
@@ -57,19 +58,15 @@ func read(r *octet.Reader) api.Ticket {
 }
 
 func inRange(t api.Ticket) bool {
-	return within(t.Id, 1, api.MaxId) &&
-		within(t.From, 0, api.MaxTime) &&
-		within(t.To, 0, api.MaxTime) &&
-		within(t.Zones, 1, api.AllZones)
+	return limit.Within(t.Id, 1, api.MaxId) &&
+		limit.Within(t.From, 0, api.MaxTime) &&
+		limit.Within(t.To, 0, api.MaxTime) &&
+		limit.Within(t.Zones, 1, api.AllZones)
 }
 
 func ridesFit(t api.Ticket) bool {
 	if t.Kind == api.Carnet {
-		return within(t.Rides, 2, api.MaxRides)
+		return limit.Within(t.Rides, 2, api.MaxRides)
 	}
 	return t.Rides == 0
-}
-
-func within(n, least, most int) bool {
-	return least <= n && n <= most
 }

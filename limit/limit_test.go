@@ -1,0 +1,24 @@
+package limit_test
+
+import (
+	"math"
+	"testing"
+
+	"leeboard/limit"
+)
+
+func TestWithin(t *testing.T) {
+	for _, c := range []struct {
+		n, least, most int
+		want           bool
+	}{
+		{1, 1, 9, true}, {9, 1, 9, true}, {5, 1, 9, true}, {5, 5, 5, true},
+		{0, 1, 9, false}, {10, 1, 9, false}, {4, 5, 5, false}, {5, 9, 1, false},
+		{math.MinInt, 0, 9, false}, {math.MaxInt, 0, 9, false},
+		{math.MinInt, math.MinInt, 0, true}, {math.MaxInt, 0, math.MaxInt, true},
+	} {
+		if got := limit.Within(c.n, c.least, c.most); got != c.want {
+			t.Errorf("%d from %d to %d: %v", c.n, c.least, c.most, got)
+		}
+	}
+}
