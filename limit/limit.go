@@ -5,3 +5,12 @@ package limit
 func Within(n, least, most int) bool {
 	return least <= n && n <= most
 }
+
+// OneZone tells whether n is one zone, not none and no sum of several.
+func OneZone(n int) bool {
+	switch n {
+	case 1, 2, 4, 8:
+		return true
+	}
+	return false
+}

@@ -2,6 +2,7 @@ package limit_test
 
 import (
 	"math"
+	"slices"
 	"testing"
 
 	"leeboard/limit"
@@ -19,6 +20,19 @@ func TestWithin(t *testing.T) {
 	} {
 		if got := limit.Within(c.n, c.least, c.most); got != c.want {
 			t.Errorf("%d from %d to %d: %v", c.n, c.least, c.most, got)
+		}
+	}
+}
+
+func TestOneZone(t *testing.T) {
+	for n := -20; n <= 300; n++ {
+		if got := limit.OneZone(n); got != slices.Contains([]int{1, 2, 4, 8}, n) {
+			t.Errorf("%d: %v", n, got)
+		}
+	}
+	for _, n := range []int{math.MinInt, math.MaxInt, 1 << 32, 1<<32 + 1} {
+		if limit.OneZone(n) {
+			t.Errorf("%d is one", n)
 		}
 	}
 }
