@@ -271,6 +271,9 @@ func TestE1NewMemory(t *testing.T) {
 		if !slices.Equal(d.Ids[:cap(d.Ids)], before) {
 			t.Errorf("%s hands out what it was handed", name)
 		}
+		if y, _ = call(d); !slices.Equal(y.Ids, kept) {
+			t.Errorf("%s answers something else when its answer was changed", name)
+		}
 	}
 }
 

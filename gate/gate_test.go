@@ -528,6 +528,9 @@ func TestF2NewMemory(t *testing.T) {
 	if !same(room(g), before) {
 		t.Error("Tap hands out what it was handed")
 	}
+	if y, _, _ = gate.Tap(g, single(9), 60); !same(y, kept) {
+		t.Error("Tap answers something else when its answer was changed")
+	}
 }
 
 func TestF3NewMemory(t *testing.T) {
@@ -542,17 +545,17 @@ func TestF3NewMemory(t *testing.T) {
 		if e != api.OK || !unchanged() {
 			t.Errorf("version %d: Sync changed what it was handed (%d)", version, e)
 		}
+		kept, told := copied(y), slices.Clone(l)
 		scrawl(y)
 		scrawlTaps(l)
 		if !unchanged() {
 			t.Errorf("version %d: Sync hands out what it was handed", version)
 		}
 		y, l, _ = gate.Sync(g, d, 60)
-		kept, told := copied(y), slices.Clone(l)
 		scrawl(g)
 		scrawlIds(d.Ids)
 		if len(l) != 3 || !same(y, kept) || !slices.Equal(l, told) {
-			t.Errorf("version %d: Sync keeps what it was handed", version)
+			t.Errorf("version %d: Sync keeps what it was handed, or what it answered", version)
 		}
 		scrawl(y)
 		if !slices.Equal(l, told) {

@@ -394,6 +394,9 @@ func TestD2NewMemory(t *testing.T) {
 		if !same(whole(l), before) {
 			t.Errorf("%s hands out what it was handed", name)
 		}
+		if !same(call(l), kept) {
+			t.Errorf("%s answers something else when its answer was changed", name)
+		}
 	}
 }
 

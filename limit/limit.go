@@ -1,6 +1,8 @@
 // Package limit: what numbers may be, where several layers ask it.
 package limit
 
+import "leeboard/api"
+
 // Within tells whether n is from least to most, both too.
 func Within(n, least, most int) bool {
 	return least <= n && n <= most
@@ -13,4 +15,9 @@ func OneZone(n int) bool {
 		return true
 	}
 	return false
+}
+
+// IsTime tells whether n is a time.
+func IsTime(n int) bool {
+	return Within(n, 0, api.MaxTime)
 }

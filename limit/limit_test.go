@@ -36,3 +36,14 @@ func TestOneZone(t *testing.T) {
 		}
 	}
 }
+
+func TestIsTime(t *testing.T) {
+	for n, want := range map[int]bool{
+		0: true, 1: true, 5000: true, 9998: true, 9999: true,
+		-1: false, 10000: false, 10099: false, math.MinInt: false, math.MaxInt: false, 1 << 32: false,
+	} {
+		if got := limit.IsTime(n); got != want {
+			t.Errorf("%d: %v", n, got)
+		}
+	}
+}

@@ -59,8 +59,8 @@ func read(r *octet.Reader) api.Ticket {
 
 func inRange(t api.Ticket) bool {
 	return limit.Within(t.Id, 1, api.MaxId) &&
-		limit.Within(t.From, 0, api.MaxTime) &&
-		limit.Within(t.To, 0, api.MaxTime) &&
+		limit.IsTime(t.From) &&
+		limit.IsTime(t.To) &&
 		limit.Within(t.Zones, 1, api.AllZones)
 }
 
